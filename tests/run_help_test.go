@@ -148,6 +148,8 @@ func checkRun(t *testing.T, p impl.Plan, want impl.Report) {
 	}
 	checkRunning(t, want)
 	checkAllowances(t, p)
+	checkAllStands(t, p, most)
+	checkEnds(t, p)
 }
 
 // checkAllowances: at each allowance below the ticks of the whole run its beginning is shown, at any other the whole.

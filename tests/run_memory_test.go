@@ -80,9 +80,9 @@ func goroutines(most int) int {
 	return runtime.NumGoroutine()
 }
 
-func TestNoGoroutineIsLeft(t *testing.T) {
-	before := runtime.NumGoroutine()
-	waits := []impl.Plan{
+// restless plans have tasks in every state when they end.
+func restless() []impl.Plan {
+	return []impl.Plan{
 		read("set r1 59; loop r1 { new r2 body 1; resume r0 r2 }", "defer { say r0 } try r1 { yield r0 } say r0"),
 		read("set r1 59; loop r1 { new r2 body 1 }", "say r0"),
 		read("set r1 59; loop r1 { new r2 body 1; giveup r0 r2 }", "say r0"),
@@ -90,9 +90,18 @@ func TestNoGoroutineIsLeft(t *testing.T) {
 		read("new r1 body 1; resume r0 r1", "new r1 body 1; resume r0 r1"),
 		read("new r1 body 1; resume r0 r1; giveup r0 r1", "defer { set r1 1; loop r1 { set r1 1 } } yield r0"),
 	}
-	for _, p := range append(waits, manyPlans(100)...) {
+}
+
+func TestNoGoroutineIsLeft(t *testing.T) {
+	checkNoneLeft(t, func(p impl.Plan, ticks int) { impl.RunPlan(p, ticks) })
+}
+
+func checkNoneLeft(t *testing.T, call func(p impl.Plan, ticks int)) {
+	t.Helper()
+	before := runtime.NumGoroutine()
+	for _, p := range append(restless(), manyPlans(100)...) {
 		for _, ticks := range []int{0, 1, 7, 50, 120, most} {
-			impl.RunPlan(p, ticks)
+			call(p, ticks)
 			if n := goroutines(before); n > before {
 				t.Fatalf("%s\nwith %d ticks: %d goroutines, %d before", impl.WritePlan(p), ticks, n, before)
 			}
@@ -100,15 +109,20 @@ func TestNoGoroutineIsLeft(t *testing.T) {
 	}
 }
 
-// On one processor whoever ends a run's last goroutine is gone before the answer is seen; goroutines that are only let go of are not.
 func TestGoroutinesEndAheadOfTheAnswer(t *testing.T) {
+	checkEndAhead(t, func(p impl.Plan) { impl.RunPlan(p, most) })
+}
+
+// On one processor whoever ends a run's last goroutine is gone before the answer is seen; goroutines that are only let go of are not.
+func checkEndAhead(t *testing.T, call func(p impl.Plan)) {
+	t.Helper()
 	defer runtime.GOMAXPROCS(runtime.GOMAXPROCS(1))
 	p := read("set r1 59; loop r1 { new r2 body 1; resume r0 r2 }", "yield r0")
 	before := runtime.NumGoroutine()
 	const times = 40
 	late := 0
 	for range times {
-		impl.RunPlan(p, most)
+		call(p)
 		if runtime.NumGoroutine() > before {
 			late++
 		}

@@ -33,29 +33,59 @@ type slowTask struct {
 	doomed  bool
 	dropped bool
 	last    int64
+	met     int
+	begun   int
 }
 
 type slowPlan struct {
-	plan  impl.Plan
-	most  int
-	out   impl.Report
-	tasks []*slowTask
-	cur   int
-	over  bool
+	plan   impl.Plan
+	most   int
+	out    impl.Report
+	tasks  []*slowTask
+	cur    int
+	over   bool
+	looks  bool
+	stands []impl.Stand
 }
 
 func slowRun(p impl.Plan, ticks int) impl.Report {
 	r := &slowPlan{plan: p, most: ticks}
-	main := r.add(0)
-	main.state = 2
-	r.open(main, 0, 0, p.Bodies[0].Steps)
-	for !r.over {
-		r.next()
-	}
+	r.all()
 	for _, t := range r.tasks {
 		r.out.States = append(r.out.States, t.state)
 	}
 	return r.out
+}
+
+// slowStands answers what stands at each record.
+func slowStands(p impl.Plan, ticks int) []impl.Stand {
+	r := &slowPlan{plan: p, most: ticks, looks: true}
+	r.all()
+	return r.stands
+}
+
+func slowEnd(p impl.Plan, ticks int) impl.Stand {
+	r := &slowPlan{plan: p, most: ticks}
+	r.all()
+	return r.stand()
+}
+
+func (r *slowPlan) all() {
+	main := r.add(0)
+	main.state = 2
+	r.open(main, 0, 0, r.plan.Bodies[0].Steps)
+	for !r.over {
+		r.next()
+	}
+}
+
+func (r *slowPlan) stand() impl.Stand {
+	s := impl.Stand{Ok: true, Running: r.cur}
+	for _, t := range r.tasks {
+		regs := []int64{t.regs[0], t.regs[1], t.regs[2], t.regs[3]}
+		s.Tasks = append(s.Tasks, impl.TaskView{Body: t.body, State: t.state, Regs: regs, Waiter: t.waiter, Blocks: len(t.open), Kept: t.met, Begun: t.begun})
+	}
+	return s
 }
 
 func (r *slowPlan) add(body int) *slowTask {
@@ -79,6 +109,9 @@ func (r *slowPlan) tick() bool {
 }
 
 func (r *slowPlan) record(kind, how int, num int64) {
+	if r.looks {
+		r.stands = append(r.stands, r.stand())
+	}
 	r.out.Recs = append(r.out.Recs, impl.Rec{Kind: kind, Task: r.cur, How: how, Num: num})
 }
 
@@ -96,6 +129,7 @@ func (r *slowPlan) next() {
 		if r.tick() {
 			r.open(t, impl.TDefer, 0, b.kept[len(b.kept)-1])
 			b.kept = b.kept[:len(b.kept)-1]
+			t.begun++
 		}
 	default:
 		r.shut(t, b)
@@ -195,6 +229,7 @@ func (r *slowPlan) step(t *slowTask, b *slowBlock, s impl.Step) {
 		r.open(t, s.Op, s.A, block)
 	case impl.TDefer:
 		b.kept = append(b.kept, block)
+		t.met++
 	case impl.TLoop:
 		if t.regs[s.A] > 0 {
 			b.at = here

@@ -84,7 +84,18 @@ func TestRefused(t *testing.T) {
 			t.Errorf("%d ticks: %v", ticks, got)
 		}
 	}
-	wrong := []impl.Plan{
+	for i, p := range wrongPlans() {
+		for _, ticks := range []int{-1, 0, 1, 5000, 5001} {
+			if got := impl.RunPlan(p, ticks); !sameReport(got, impl.Report{Code: 3}) {
+				t.Errorf("wrong plan %d with %d ticks: %v", i, ticks, got)
+			}
+		}
+	}
+}
+
+// wrongPlans has a plan for each kind of fault, and some more.
+func wrongPlans() []impl.Plan {
+	return []impl.Plan{
 		{},
 		{Bodies: make([]impl.Body, 31)},
 		one(says(301)...),
@@ -95,13 +106,6 @@ func TestRefused(t *testing.T) {
 		one(nest(impl.TScope, 13)...),
 		one(head(impl.TDefer, 1), impl.Step{Op: impl.TReturn}),
 		plan(says(1), []impl.Step{{Op: 16}}),
-	}
-	for i, p := range wrong {
-		for _, ticks := range []int{-1, 0, 1, 5000, 5001} {
-			if got := impl.RunPlan(p, ticks); !sameReport(got, impl.Report{Code: 3}) {
-				t.Errorf("wrong plan %d with %d ticks: %v", i, ticks, got)
-			}
-		}
 	}
 }
 
