@@ -150,6 +150,7 @@ func checkRun(t *testing.T, p impl.Plan, want impl.Report) {
 	checkAllowances(t, p)
 	checkAllStands(t, p, most)
 	checkEnds(t, p)
+	checkToldAtAll(t, p)
 }
 
 // checkAllowances: at each allowance below the ticks of the whole run its beginning is shown, at any other the whole.
